@@ -1,0 +1,1 @@
+"""Closed ways on skins with rims, drawn with as few crossings as can be."""
