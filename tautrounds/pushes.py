@@ -2,7 +2,7 @@
 
 from tautrounds.drawings import Drawing, Layout, check_drawing
 from tautrounds.errors import BadNumber
-from tautrounds.given import is_list, is_number, is_tuple, is_within
+from tautrounds.given import is_list, is_tuple, is_within
 from tautrounds.patches import check_drawn_once, patch_from, patch_starts, step_on
 
 
@@ -115,7 +115,7 @@ def straightened(drawing):
 
 def _is_step(layout, thing):
     """Whether it is a pair of numbers that tells two neighbours whose exchange adds no crossing."""
-    if not is_tuple(thing) or len(thing) != 2 or not is_number(thing[0]):
+    if not is_tuple(thing) or len(thing) != 2:
         return False
     band, place = thing
     if not _is_band(layout, band) or not _is_place(layout, band, place):

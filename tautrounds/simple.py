@@ -16,7 +16,7 @@ def is_simple(skin, loop):
     return own_number(skin, loop) == 0
 
 
-def _words_many(bands, most):
+def words_many(bands, most):
     """How many words of 1 to most letters have no two letters side by side, read round, that undo one another.
 
     Of length letters there are (2 * bands - 1) ** length + 1 such words, and 2 * (bands - 1) more for an even
@@ -55,7 +55,7 @@ def simple_rounds(skin, most):
     check_skin(skin)
     if not is_within(most, 1, 8):
         raise BadNumber("most")
-    if _words_many(skin.bands, most) > MOST_WORDS:
+    if words_many(skin.bands, most) > MOST_WORDS:
         raise TooMany(MOST_WORDS)
     starts = [(letter,) for letter in range(2 * skin.bands)]
     found = []

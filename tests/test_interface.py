@@ -1,9 +1,13 @@
 """The interface: each name stands in its file, is defined there, and takes what the document states."""
 
 import ast
+import copy
 import importlib
 import inspect
 import unittest
+
+from tautrounds.drawings import Drawing
+from tautrounds.skins import Skin
 
 INTERFACE = {
     "skins": {
@@ -51,6 +55,30 @@ class InterfaceTest(unittest.TestCase):
             defined = [node.name for node in tree.body if isinstance(node, (ast.FunctionDef, ast.ClassDef))]
             for thing in wanted:
                 self.assertIn(thing, defined)
+
+    def test_named_arguments_and_new_lists(self):
+        """Named arguments tell the same as those by position; what is handed in stays, what is told is new."""
+        skin, rounds, rows = Skin((0, 1, 2, 3)), [(0,), (0, 2)], [[(0, 0), (1, 0)], [(1, 1)]]
+        drawing = Drawing(skin, rounds, rows)
+        values = {
+            "skin": skin, "word": (0, 2, 1), "thing": (0, 2), "loop": (0, 3), "times": 2, "one": (0, 3),
+            "other": (0, 2), "end": 1, "letters": [1, 0, 2, 3], "images": [(0, 2), (3, 1), (2,), (3,)],
+            "way": [("rename", (0, 1, 2, 3))], "place": 0, "spot": 0, "rounds": rounds, "rows": rows, "most": 3,
+            "side": 1, "drawing": drawing, "band": 0, "row": [0, 2, 1, 3], "genus": 1, "rims": 1,
+        }
+        before = copy.deepcopy(values)
+        for name, wanted in INTERFACE.items():
+            module = importlib.import_module("tautrounds." + name)
+            for thing, arguments in wanted.items():
+                act = getattr(module, thing)
+                told = act(*[values[word] for word in arguments.split()])
+                again = act(**{word: values[word] for word in arguments.split()})
+                self.assertEqual(told, again, thing)
+                if type(told) is list:
+                    told.append(None)
+                    again.append(None)
+                    self.assertEqual(act(*[values[word] for word in arguments.split()]), told[:-1], thing)
+                self.assertEqual(values, before, thing)
 
 
 if __name__ == "__main__":

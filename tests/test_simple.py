@@ -7,7 +7,7 @@ from math import gcd
 from tautrounds.errors import BadNumber, BadRound, BadSkin, TooMany
 from tautrounds.linked import crossings, own_crossings
 from tautrounds.rounds import root_of, round_of, turned_about
-from tautrounds.simple import is_even, is_simple, simple_rounds
+from tautrounds.simple import is_even, is_simple, simple_rounds, words_many
 from tautrounds.skins import Skin, rims
 from tests.helpers import (
     HOLES, NO_NUMBERS, NO_SKINS, RING, TORUS, all_rounds, chance_of, chance_round, chance_skin, check_error,
@@ -85,19 +85,12 @@ class SimpleRoundsTest(unittest.TestCase):
                 self.assertLessEqual(len(simple_rounds(skin, most)), 10000)
 
     def test_bound_is_that_of_words(self):
-        for bands in range(1, 7):
-            for most in range(1, 5):
-                many = 0
-                for size in range(1, most + 1):
-                    for word in product(range(2 * bands), repeat=size):
-                        many += all(word[at - 1] != word[at] ^ 1 for at in range(size))
-                    if many > 10000:
-                        break
-                skin = Skin(list(range(2 * bands)))
-                if many > 10000:
-                    check_error(self, TooMany, ("most", 10000), simple_rounds, skin, most)
-                else:
-                    self.assertIs(type(simple_rounds(skin, most)), list)
+        for bands, longest in ((1, 8), (2, 6), (3, 5), (4, 4), (5, 4), (6, 3)):
+            many = 0
+            for size in range(1, longest + 1):
+                for word in product(range(2 * bands), repeat=size):
+                    many += all(word[at - 1] != word[at] ^ 1 for at in range(size))
+                self.assertEqual(words_many(bands, size), many)
 
     def test_errors_in_sequence(self):
         for skin in NO_SKINS:
