@@ -55,8 +55,13 @@ def _row(skin, rounds, band):
     return row
 
 
+def best_rows(skin, rounds):
+    """The rows of the best drawing of rounds, however many."""
+    return [_row(skin, rounds, band) for band in range(skin.bands)]
+
+
 def best_drawing(skin, rounds):
     """The Drawing with the fewest crossings, of all together and of each two."""
     check_skin(skin)
     check_rounds(skin, rounds)
-    return Drawing(skin, rounds, [_row(skin, rounds, band) for band in range(skin.bands)])
+    return Drawing(skin, rounds, best_rows(skin, rounds))

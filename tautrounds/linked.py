@@ -25,8 +25,8 @@ def _linked_across(skin, one, place, other, spot):
     return by_turns(first, second, third, fourth)
 
 
-def _pairs(skin, one, other):
-    """linked_pairs of rounds that surely are such."""
+def pairs_of(skin, one, other):
+    """linked_pairs of rounds, however long, that surely are such."""
     found = []
     for place in range(len(one)):
         for spot in range(len(other)):
@@ -43,7 +43,7 @@ def linked_pairs(skin, one, other):
     check_skin(skin)
     check_round(skin, one)
     check_round(skin, other)
-    return _pairs(skin, one, other)
+    return pairs_of(skin, one, other)
 
 
 def _taken_otherwise(loop, pair):
@@ -57,7 +57,7 @@ def _taken_otherwise(loop, pair):
 def _own_pairs(skin, loop):
     """own_pairs of a round that surely is one."""
     found = set()
-    for pair in _pairs(skin, loop, loop):
+    for pair in pairs_of(skin, loop, loop):
         found.add(min(pair, _taken_otherwise(loop, pair)))
     return sorted(found)
 
@@ -70,7 +70,7 @@ def own_pairs(skin, loop):
 
 
 def own_number(skin, loop):
-    """own_crossings of a round that surely is one."""
+    """own_crossings of a round, however long, that surely is one."""
     return len(_own_pairs(skin, loop)) + rooted(loop)[1] - 1
 
 
@@ -79,7 +79,7 @@ def crossings(skin, one, other):
     check_skin(skin)
     check_round(skin, one)
     check_round(skin, other)
-    return len(_pairs(skin, one, other))
+    return len(pairs_of(skin, one, other))
 
 
 def own_crossings(skin, loop):
@@ -97,5 +97,5 @@ def fewest(skin, rounds):
     for place, loop in enumerate(rounds):
         many += own_number(skin, loop)
         for other in rounds[place + 1:]:
-            many += len(_pairs(skin, loop, other))
+            many += len(pairs_of(skin, loop, other))
     return many

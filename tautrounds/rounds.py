@@ -27,7 +27,7 @@ def round_of(skin, word):
     return closed_up(word)
 
 
-def _is_fit(skin, thing):
+def is_fit_round(skin, thing):
     """Whether it is a round within the limits, of a skin that surely is one."""
     return has_letters(skin, thing, MOST_IN_ROUND) and len(thing) > 0 and closed_up(thing) == thing
 
@@ -35,12 +35,12 @@ def _is_fit(skin, thing):
 def is_round(skin, thing):
     """Of any value: whether it is a round within the limits."""
     check_skin(skin)
-    return _is_fit(skin, thing)
+    return is_fit_round(skin, thing)
 
 
 def check_round(skin, loop):
     """BadRound unless it is a round within the limits."""
-    if not _is_fit(skin, loop):
+    if not is_fit_round(skin, loop):
         raise BadRound("a round of at most 40 letters is wanted")
 
 
@@ -49,7 +49,7 @@ def check_rounds(skin, rounds):
     if not is_list(rounds) or len(rounds) > MOST_ROUNDS:
         raise BadRounds("list")
     for place, loop in enumerate(rounds):
-        if not _is_fit(skin, loop):
+        if not is_fit_round(skin, loop):
             raise BadRounds(place)
     if sum([len(loop) for loop in rounds]) > MOST_TOGETHER:
         raise BadRounds("list")

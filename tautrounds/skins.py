@@ -4,7 +4,7 @@ from tautrounds.errors import BadNumber, BadSkin
 from tautrounds.given import is_list, is_number, is_within
 
 
-def _is_row(row):
+def is_row(row):
     """Whether it is the sequence of the ends of one to six bands."""
     if not is_list(row) or len(row) not in (2, 4, 6, 8, 10, 12):
         return False
@@ -15,7 +15,7 @@ class Skin:
     """A disc with flat bands; places tells where in the row each end stands."""
 
     def __init__(self, row):
-        if not _is_row(row):
+        if not is_row(row):
             raise BadSkin("row")
         start = row.index(0)
         self.row = tuple(row[start:]) + tuple(row[:start])

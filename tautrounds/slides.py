@@ -54,7 +54,7 @@ def _are_images(skin, images):
     return all([images[letter + 1] == gone_back(images[letter]) for letter in range(0, len(images), 2)])
 
 
-def _led_free(images, word):
+def led_free(images, word):
     """Free of the images of the letters, one behind the other."""
     return cut_free([image for letter in word for image in images[letter]])
 
@@ -65,7 +65,7 @@ def led(skin, images, word):
     check_word(skin, word)
     if not _are_images(skin, images):
         raise BadImages("a word is wanted for each letter, and its undone for the other end")
-    return _led_free(images, word)
+    return led_free(images, word)
 
 
 def _plain_row(handles, holes):
@@ -245,7 +245,7 @@ def way_images(skin, way):
         raise NotNow("this is no way to the plain skin")
     images = [(letter,) for letter in range(len(skin.row))]
     for step in way:
-        images = [_led_free(_images_of_step(skin, step), word) for word in images]
+        images = [led_free(_images_of_step(skin, step), word) for word in images]
         if max([len(word) for word in images]) > MOST_IN_IMAGE:
             raise TooMany(MOST_IN_IMAGE)
         skin = _behind_step(skin, step)

@@ -3,9 +3,15 @@
 import random
 from itertools import permutations, product
 
+from tautrounds.changes import behind
 from tautrounds.drawings import Drawing, strands_along
-from tautrounds.rounds import along, is_round, root_of, round_of
-from tautrounds.skins import Skin
+from tautrounds.errors import TooMany
+from tautrounds.linked import crossings, own_crossings
+from tautrounds.rounds import along, closed_up, is_round, root_of, round_of, turned_about
+from tautrounds.skins import Skin, rims
+from tautrounds.slides import led
+from tautrounds.twists import twist
+from tautrounds.words import gone_back
 
 TORUS = Skin((0, 2, 1, 3))
 HOLES = Skin((0, 1, 2, 3))
@@ -104,3 +110,67 @@ def all_rounds(skin, most):
 
 def chance_of(seed):
     return random.Random(seed)
+
+
+def chance_simple(chance, skin, most):
+    """A simple round of at most so many letters; a rim if chance finds no other one."""
+    for _ in range(60):
+        loop = chance_round(chance, skin, most)
+        if own_crossings(skin, loop) == 0:
+            return loop
+    return chance.choice(rims(skin))
+
+
+def chance_apart(chance, skin, many, most):
+    """At most so many simple rounds, no two of which cross; some may go along one another."""
+    rounds = []
+    for _ in range(4 * many):
+        loop = chance_simple(chance, skin, most)
+        if len(rounds) < many and not any(crossings(skin, loop, other) for other in rounds):
+            rounds.append(loop)
+            if chance.randrange(4) == 0 and len(rounds) < many:
+                rounds.append(chance.choice([loop, turned_about(skin, loop)]))
+    return rounds
+
+
+def own_images(skin):
+    """The images that lead each letter to itself."""
+    return [(letter,) for letter in range(2 * skin.bands)]
+
+
+def images_from(words):
+    """The images that have these words for the even letters."""
+    return [image for word in words for image in (word, gone_back(word))]
+
+
+def led_round(skin, images, loop):
+    """The round to which a round, or a word, is led, however long."""
+    return closed_up(led(skin, images, loop))
+
+
+def chance_change(chance, skin, many):
+    """A change: so many twists, one behind the other, or fewer where the words would grow too long."""
+    images = own_images(skin)
+    for _ in range(many):
+        step = twist(skin, chance_simple(chance, skin, 4), chance.choice([-2, -1, 1, 2]))
+        try:
+            images = behind(skin, images, step)
+        except TooMany:
+            pass
+    return images
+
+
+def forward_rims(skin, images):
+    """Whether the images lead each rim to a rim, not turned about."""
+    return sorted(led_round(skin, images, rim) for rim in rims(skin)) == rims(skin)
+
+
+def chance_sum(chance, skin, many, most):
+    """A sum of at most so many rounds."""
+    return {loop: chance.choice([-3, -2, -1, 1, 2, 5]) for loop in chance_rounds(chance, skin, many, most)}
+
+
+def check_ascending(case, told):
+    """That a dict, or a list, is told ascending, and is a plain one."""
+    case.assertIn(type(told), (dict, list))
+    case.assertEqual(list(told), sorted(told))

@@ -7,6 +7,7 @@ import inspect
 import unittest
 
 from tautrounds.drawings import Drawing
+from tautrounds.live import Live
 from tautrounds.skins import Skin
 
 INTERFACE = {
@@ -36,6 +37,47 @@ INTERFACE = {
         "exchanged": "drawing band place", "rise": "drawing band place", "straightened": "drawing",
         "is_way": "drawing thing",
     },
+    "pieces": {"pieces": "drawing", "inner_discs": "drawing", "fills": "skin rounds", "free_round": "skin rounds"},
+    "sums": {"is_sum": "skin thing", "added": "skin one other times", "weight": "skin some"},
+    "brackets": {"bracket_drawn": "drawing one other", "bracket": "skin one other"},
+    "splits": {"split_drawn": "drawing index", "split": "skin some"},
+    "changes": {
+        "behind": "skin one other", "led_sum": "skin images some", "is_change": "skin images",
+        "undone_change": "skin images", "shown_against": "skin images", "is_shown_against": "skin images thing",
+    },
+    "twists": {"twist": "skin loop times"},
+    "cuts": {
+        "parts": "skin rounds", "is_parts": "skin rounds thing", "home": "skin rounds loop", "sides": "skin loop",
+        "alike_rounds": "skin one other",
+    },
+    "live": {"Live": "skin cross"},
+    "orders": {"may_change": "skin deeds at", "orders": "skin deeds"},
+    "wordtexts": {
+        "word_text": "skin word", "skin_text": "skin", "read_word": "skin text", "read_round": "skin text",
+        "read_skin": "text",
+    },
+    "drawingtexts": {
+        "sum_text": "skin some", "drawing_text": "drawing", "read_sum": "skin text", "read_drawing": "text",
+    },
+    "logs": {"log_text": "live", "read_log": "text"},
+    "merges": {"merged": "skin base one other", "clash": "skin base one other"},
+}
+METHODS = {
+    "loop": "name", "copy": "", "draw": "name loop", "wipe": "name", "swap": "band place", "settle": "",
+    "slide": "end side", "rename": "letters", "change": "images", "twist": "name times", "number": "name other",
+    "fewest": "", "crossed": "", "over": "", "do": "deeds", "steps": "", "undo": "", "redo": "", "mark": "name",
+    "to": "name", "marks": "",
+}
+# What is handed in under a name that another function wants to be something else.
+SPECIAL = {
+    ("bracket_drawn", "one"): 0, ("bracket_drawn", "other"): 1, ("bracket", "one"): {(0,): 1},
+    ("bracket", "other"): {(2,): 1}, ("added", "one"): {(0,): 1}, ("added", "other"): {(2,): 1},
+    ("behind", "one"): [(0,), (1,), (2,), (3,)], ("behind", "other"): [(0,), (1,), (2,), (3,)],
+    ("is_change", "images"): [(2,), (3,), (0,), (1,)], ("undone_change", "images"): [(2,), (3,), (0,), (1,)],
+    ("twist", "loop"): (0,), ("sides", "loop"): (0,), ("alike_rounds", "one"): (0,), ("alike_rounds", "other"): (2,),
+    ("Live", "cross"): None, ("read_word", "text"): "ab", ("read_round", "text"): "ab", ("read_skin", "text"): "aAbB",
+    ("read_sum", "text"): "1 a\n", ("read_drawing", "text"): "aAbB\n\n\n\n", ("read_log", "text"): "aAbB\nsettle\n",
+    ("merged", "one"): [("settle",)], ("merged", "other"): [], ("clash", "one"): [("settle",)], ("clash", "other"): [],
 }
 
 
@@ -56,6 +98,14 @@ class InterfaceTest(unittest.TestCase):
             for thing in wanted:
                 self.assertIn(thing, defined)
 
+    def test_methods(self):
+        self.assertEqual(set(METHODS) - set(vars(Live)), set())
+        for name, arguments in METHODS.items():
+            self.assertEqual(list(inspect.signature(getattr(Live, name)).parameters), ["self"] + arguments.split())
+        self.assertIs(inspect.signature(Live).parameters["cross"].default, None)
+        self.assertIs(inspect.signature(Live.number).parameters["other"].default, None)
+        self.assertTrue({"first", "skin", "names", "drawing"} <= set(vars(Live(Skin((0, 1))))))
+
     def test_named_arguments_and_new_lists(self):
         """Named arguments tell the same as those by position; what is handed in stays, what is told is new."""
         skin, rounds, rows = Skin((0, 1, 2, 3)), [(0,), (0, 2)], [[(0, 0), (1, 0)], [(1, 1)]]
@@ -65,20 +115,27 @@ class InterfaceTest(unittest.TestCase):
             "other": (0, 2), "end": 1, "letters": [1, 0, 2, 3], "images": [(0, 2), (3, 1), (2,), (3,)],
             "way": [("rename", (0, 1, 2, 3))], "place": 0, "spot": 0, "rounds": rounds, "rows": rows, "most": 3,
             "side": 1, "drawing": drawing, "band": 0, "row": [0, 2, 1, 3], "genus": 1, "rims": 1,
+            "some": {(0, 3): 1}, "index": 0, "live": Live(skin), "at": 0, "base": [],
+            "deeds": [("draw", "x", (0,)), ("settle",)],
         }
-        before = copy.deepcopy(values)
+        before = copy.deepcopy([values, SPECIAL])
         for name, wanted in INTERFACE.items():
             module = importlib.import_module("tautrounds." + name)
             for thing, arguments in wanted.items():
                 act = getattr(module, thing)
-                told = act(*[values[word] for word in arguments.split()])
-                again = act(**{word: values[word] for word in arguments.split()})
+                named = {word: SPECIAL.get((thing, word), values.get(word)) for word in arguments.split()}
+                told = act(*named.values())
+                again = act(**named)
                 self.assertEqual(told, again, thing)
                 if type(told) is list:
                     told.append(None)
                     again.append(None)
-                    self.assertEqual(act(*[values[word] for word in arguments.split()]), told[:-1], thing)
-                self.assertEqual(values, before, thing)
+                    self.assertEqual(act(**named), told[:-1], thing)
+                if type(told) is dict:
+                    told[None] = None
+                    again[None] = None
+                    self.assertNotIn(None, act(**named), thing)
+                self.assertEqual([values, SPECIAL], before, thing)
 
 
 if __name__ == "__main__":

@@ -17,8 +17,10 @@ METHODS = (
 ).split()
 STATEMENTS = (
     ast.Assign, ast.AugAssign, ast.If, ast.While, ast.For, ast.Return, ast.Break, ast.Continue, ast.Pass, ast.Raise,
-    ast.Expr, ast.FunctionDef, ast.ClassDef, ast.ImportFrom,
+    ast.Expr, ast.FunctionDef, ast.ClassDef, ast.ImportFrom, ast.Try,
 )
+# Errors of the package may be caught around calls of its own functions; no others are.
+CAUGHT = ("RoundError", "BadText")
 DOUBLE = ("__init__", "__eq__")
 WORDS = re.compile(
     r"\b(typing|enum|Enum|namedtuple|NamedTuple|TypedDict|ABC|abstractmethod|Protocol|Generic|Flag)\b"
@@ -81,6 +83,7 @@ class LanguageTest(unittest.TestCase):
                 self.assertRegex(module, r"^tautrounds\.[a-z]+$")
                 other = self.trees[module.split(".")[1] + ".py"]
                 defined = [node.name for node in other.body if isinstance(node, (ast.FunctionDef, ast.ClassDef))]
+                defined += [node.targets[0].id for node in other.body if isinstance(node, ast.Assign)]
                 for one in names:
                     self.assertIn(one, defined, name)
                     self.assertIn(one, used, name)
@@ -94,9 +97,13 @@ class LanguageTest(unittest.TestCase):
             for node in ast.walk(tree):
                 if isinstance(node, ast.stmt):
                     self.assertIsInstance(node, STATEMENTS, name)
+                if isinstance(node, ast.Try):
+                    self.assertEqual((len(node.handlers), node.orelse, node.finalbody), (1, [], []), name)
+                    self.assertIn(node.handlers[0].type.id, CAUGHT)
+                    self.assertIsNone(node.handlers[0].name)
             for node in tree.body:
                 if isinstance(node, ast.Assign):
-                    self.assertIsInstance(node.value, ast.Constant)
+                    self.assertIsInstance(node.value, (ast.Constant, ast.Dict))
                     self.assertEqual(len(node.targets), 1)
                 elif isinstance(node, ast.Expr):
                     self.assertIsInstance(node.value, ast.Constant)
@@ -161,7 +168,7 @@ class LanguageTest(unittest.TestCase):
                 if isinstance(node, ast.Compare):
                     for sign, side in zip(node.ops, node.comparators):
                         if isinstance(sign, (ast.Is, ast.IsNot)):
-                            is_kind = isinstance(node.left, ast.Call) and node.left.func.id == "type"
+                            is_kind = isinstance(node.left, ast.Call) and getattr(node.left.func, "id", "") == "type"
                             self.assertTrue(is_kind or isinstance(side, ast.Constant), name)
 
 
