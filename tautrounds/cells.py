@@ -92,7 +92,7 @@ class Mesh:
 
     def _strip_behind(self, point):
         """The strip's end right behind a point."""
-        end = [end for end in self.skin.row if self.starts[end] <= point][-1]
+        end = [other for other in self.skin.row if self.starts[other] <= point][-1]
         return end, point - self.starts[end] + 1
 
 

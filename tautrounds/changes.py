@@ -3,13 +3,13 @@
 from tautrounds.bases import undone_basis
 from tautrounds.errors import BadImages, TooMany
 from tautrounds.folds import folded
-from tautrounds.given import is_list, is_text, is_tuple
+from tautrounds.given import is_text, is_tuple
 from tautrounds.linked import own_number, pairs_of
 from tautrounds.rounds import closed_up, gone_round_back, is_fit_round
 from tautrounds.skins import check_skin, is_end, rims
-from tautrounds.slides import led_free
+from tautrounds.slides import are_images, led_free, longest
 from tautrounds.sums import check_sum, put_together
-from tautrounds.words import MOST_LETTERS, gone_back, has_letters
+from tautrounds.words import MOST_LETTERS, gone_back
 
 MOST_SHOWN = 40
 MOST_IN_SHOWING = 12
@@ -17,11 +17,7 @@ MOST_IN_SHOWING = 12
 
 def _are_fit_images(skin, images):
     """Whether it is images of a skin that surely is one."""
-    if not is_list(images) or len(images) != len(skin.row):
-        return False
-    if not all([has_letters(skin, word, MOST_LETTERS) for word in images]):
-        return False
-    return all([images[letter + 1] == gone_back(images[letter]) for letter in range(0, len(images), 2)])
+    return are_images(skin, images, len(skin.row)) and longest(images) <= MOST_LETTERS
 
 
 def check_images(skin, images):
@@ -40,7 +36,7 @@ def both_ways(words):
 
 def check_lengths(images):
     """TooMany(200) if one of the images has more than 200 letters."""
-    if max([len(word) for word in images]) > MOST_LETTERS:
+    if longest(images) > MOST_LETTERS:
         raise TooMany(MOST_LETTERS)
 
 
@@ -126,7 +122,7 @@ def _showing_rounds(skin, images):
 def _check_shown_images(skin, images):
     """BadImages unless it is images of the skin, TooMany(40) if one of them has more than 40 letters."""
     check_images(skin, images)
-    if max([len(word) for word in images]) > MOST_SHOWN:
+    if longest(images) > MOST_SHOWN:
         raise TooMany(MOST_SHOWN)
 
 

@@ -8,10 +8,10 @@ from tautrounds.folds import are_alike, folded, loops_many, trimmed
 from tautrounds.given import is_list, is_number, is_tuple
 from tautrounds.linked import pairs_of
 from tautrounds.rounds import check_round, check_rounds, closed_up, gone_round_back, rooted
-from tautrounds.skins import Skin, check_skin, genus, is_end, rims
-from tautrounds.slides import led_free
+from tautrounds.skins import Skin, check_skin, genus, rims
+from tautrounds.slides import are_images, led_free
 from tautrounds.twists import check_simple
-from tautrounds.words import cut_free, gone_back
+from tautrounds.words import cut_free
 
 
 def _check_apart(skin, rounds):
@@ -98,18 +98,6 @@ def _is_label(thing):
     return is_tuple(thing) and len(thing) == 2 and type(thing[0]) is str and is_number(thing[1])
 
 
-def _is_word(skin, thing):
-    """Whether it is a word of any length."""
-    return is_tuple(thing) and all([is_end(skin, letter) for letter in thing])
-
-
-def _are_part_images(skin, part, thing):
-    """Whether it is a list with a word of the skin, of any length, for each letter of the part."""
-    if not is_list(thing) or len(thing) != len(part.row) or not all([_is_word(skin, word) for word in thing]):
-        return False
-    return all([thing[letter + 1] == gone_back(thing[letter]) for letter in range(0, len(thing), 2)])
-
-
 def _have_labels(skin, rounds, thing, part, images):
     """Whether the images lead the part's rims to the rounds of the labels told."""
     wanted = [_round_at(skin, rounds, label) for label in thing]
@@ -133,7 +121,7 @@ def _is_told_part(skin, rounds, part, thing):
         return False
     if sorted(labels) != sorted(part.labels) or not isinstance(other, Skin) or other.bands != part.skin.bands:
         return False
-    if not _are_part_images(skin, other, images):
+    if not are_images(skin, images, 2 * other.bands):
         return False
     return _have_labels(skin, rounds, labels, other, images) and _make_alike(part.images, images)
 

@@ -3,7 +3,7 @@
 from tautrounds.errors import BadImages, BadNumber, NotNow, TooMany
 from tautrounds.given import is_list, is_number, is_text, is_tuple, is_within
 from tautrounds.skins import Skin, check_skin, end_behind, is_end, is_renaming, renamed
-from tautrounds.words import check_word, cut_free, gone_back, has_letters
+from tautrounds.words import check_word, cut_free, gone_back, is_any_word
 
 MOST_IN_IMAGE = 400
 
@@ -45,13 +45,16 @@ def slid(skin, end, side):
     return Skin(_put_over(list(skin.row), end, side)), _images_of_slide(skin, end, side)
 
 
-def _are_images(skin, images):
-    """Whether it is a list with a word for each letter, those of a band undoing one another."""
-    if not is_list(images) or len(images) != len(skin.row):
+def are_images(skin, images, many):
+    """Whether it is a list of so many words, however long, those of a band undoing one another."""
+    if not is_list(images) or len(images) != many or not all([is_any_word(skin, word) for word in images]):
         return False
-    if not all([has_letters(skin, word, MOST_IN_IMAGE) for word in images]):
-        return False
-    return all([images[letter + 1] == gone_back(images[letter]) for letter in range(0, len(images), 2)])
+    return all([images[letter + 1] == gone_back(images[letter]) for letter in range(0, many, 2)])
+
+
+def longest(images):
+    """How many letters the longest of the words has."""
+    return max([len(word) for word in images])
 
 
 def led_free(images, word):
@@ -63,7 +66,7 @@ def led(skin, images, word):
     """Free of the images of the word's letters, one behind the other."""
     check_skin(skin)
     check_word(skin, word)
-    if not _are_images(skin, images):
+    if not are_images(skin, images, len(skin.row)) or longest(images) > MOST_IN_IMAGE:
         raise BadImages("a word is wanted for each letter, and its undone for the other end")
     return led_free(images, word)
 
@@ -246,7 +249,7 @@ def way_images(skin, way):
     images = [(letter,) for letter in range(len(skin.row))]
     for step in way:
         images = [led_free(_images_of_step(skin, step), word) for word in images]
-        if max([len(word) for word in images]) > MOST_IN_IMAGE:
+        if longest(images) > MOST_IN_IMAGE:
             raise TooMany(MOST_IN_IMAGE)
         skin = _behind_step(skin, step)
     return images

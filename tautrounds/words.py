@@ -7,9 +7,14 @@ from tautrounds.skins import check_skin, is_end
 MOST_LETTERS = 200
 
 
+def is_any_word(skin, thing):
+    """Whether it is a word, however long."""
+    return is_tuple(thing) and all([is_end(skin, letter) for letter in thing])
+
+
 def has_letters(skin, thing, most):
     """Whether it is a tuple of at most so many letters of the skin."""
-    return is_tuple(thing) and len(thing) <= most and all([is_end(skin, letter) for letter in thing])
+    return is_tuple(thing) and len(thing) <= most and is_any_word(skin, thing)
 
 
 def is_word(skin, thing):

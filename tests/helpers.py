@@ -5,8 +5,9 @@ from itertools import permutations, product
 
 from tautrounds.changes import behind
 from tautrounds.drawings import Drawing, strands_along
-from tautrounds.errors import TooMany
+from tautrounds.errors import RoundError, TooMany
 from tautrounds.linked import crossings, own_crossings
+from tautrounds.live import Live
 from tautrounds.rounds import along, closed_up, is_round, root_of, round_of, turned_about
 from tautrounds.skins import Skin, rims
 from tautrounds.slides import led
@@ -174,3 +175,44 @@ def check_ascending(case, told):
     """That a dict, or a list, is told ascending, and is a plain one."""
     case.assertIn(type(told), (dict, list))
     case.assertEqual(list(told), sorted(told))
+
+
+def chance_deed(chance, live):
+    """A deed that may be done with a live skin, or be refused."""
+    skin, names = live.skin, live.names or ("none",)
+    kind = chance.choice(["draw", "draw", "draw", "wipe", "swap", "settle", "slide", "rename", "change", "twist"])
+    if kind == "draw":
+        return kind, chance.choice("uvwxyz"), chance_round(chance, skin, 4)
+    if kind == "wipe":
+        return kind, chance.choice(names)
+    if kind == "swap":
+        return kind, chance.randrange(skin.bands), chance.randrange(3)
+    if kind == "slide":
+        return kind, chance.randrange(2 * skin.bands), chance.choice([1, -1])
+    if kind == "rename":
+        return kind, tuple(chance_renaming(chance, skin.bands))
+    if kind == "change":
+        return kind, tuple(twist(skin, chance_simple(chance, skin, 2), chance.choice([-1, 1])))
+    return (kind, chance.choice(names), chance.choice([-1, 1, 2])) if kind == "twist" else (kind,)
+
+
+def chance_deeds(chance, skin, many):
+    """So many deeds that can be done one after the other from a skin on."""
+    live = Live(skin)
+    deeds = []
+    while len(deeds) < many:
+        deed = chance_deed(chance, live)
+        try:
+            live.do([deed])
+        except RoundError:
+            continue
+        deeds.append(deed)
+    return deeds
+
+
+def live_of(skin, deeds):
+    """A live skin to which deeds are done one after the other."""
+    live = Live(skin)
+    for deed in deeds:
+        live.do([deed])
+    return live

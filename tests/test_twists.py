@@ -14,7 +14,7 @@ from tautrounds.slides import led
 from tautrounds.splits import split
 from tautrounds.sums import is_sum
 from tautrounds.twists import twist
-from tautrounds.words import free, gone_back
+from tautrounds.words import cut_free as long_free, free, gone_back
 from tests.helpers import (
     HOLES, NO_NUMBERS, NO_SKINS, RING, TORUS, all_rounds, chance_apart, chance_change, chance_of, chance_round,
     chance_simple, chance_skin, check_error, led_round, own_images,
@@ -43,16 +43,6 @@ def twist_by_words(skin, loop, times):
         images[k] = long_free(ahead[k] + (k,) + gone_back(beyond[k + 1]))
         images[k + 1] = gone_back(images[k])
     return [images[k] for k in range(2 * skin.bands)], long_free(word)
-
-
-def long_free(word):
-    left = []
-    for letter in word:
-        if left and left[-1] == letter ^ 1:
-            left.pop()
-        else:
-            left.append(letter)
-    return tuple(left)
 
 
 def try_twist(skin, loop, times):
