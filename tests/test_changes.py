@@ -2,6 +2,7 @@
 
 import unittest
 
+from tautrounds.bases import undone_basis
 from tautrounds.changes import behind, is_change, is_shown_against, led_sum, shown_against, undone_change
 from tautrounds.errors import BadImages, BadSkin, BadSum, TooMany
 from tautrounds.linked import crossings, own_crossings, own_number, pairs_of
@@ -17,6 +18,7 @@ from tests.helpers import (
 )
 from tests.test_sums import NO_SUMS
 
+FOUR_RIMS = Skin((0, 1, 2, 3, 4, 5))
 A_CHANGE = [(0, 2), (3, 1), (2,), (3,)]
 NO_IMAGES = ODD_VALUES + [
     [], [(0,)], [(0,), (1,), (2,)], [(0,), (0,), (2,), (3,)], [[0], [1], [2], [3]], [(0,), (1,), (2,), (3,), (4,)],
@@ -224,6 +226,27 @@ class UndoneTest(unittest.TestCase):
         check_image_errors(self, undone_change)
         check_error(self, BadImages, None, undone_change, HOLES, A_CHANGE)
         check_error(self, BadImages, None, undone_change, TORUS, images_from([(0,), (0,)]))
+
+
+class BasesTest(unittest.TestCase):
+    """Also of images that lead no rims to rims: what undoes them is found in one way for all."""
+
+    def check(self, skin, images):
+        told = images_from(undone_basis(images[::2], 200))
+        self.assertEqual(behind(skin, images, told), own_images(skin))
+        self.assertEqual(behind(skin, told, images), own_images(skin))
+
+    def test_by_chance(self):
+        chance = chance_of(350)
+        for bands in (2, 3, 3, 4, 5, 6):
+            for _ in range(20):
+                skin = chance_skin(chance, bands)
+                self.check(skin, chance_automorphism(chance, skin, chance.randint(0, 5)))
+
+    def test_where_no_two_words_make_a_shorter_one(self):
+        self.check(FOUR_RIMS, images_from([(5, 0), (1, 2), (5, 0, 4, 3, 4)]))
+        skin = Skin((0, 1, 2, 3, 4, 5, 6, 7))
+        self.check(skin, images_from([(6, 5, 0), (4, 2, 4, 1), (4, 1), (6, 1, 6, 5, 0)]))
 
 
 class ShownTest(unittest.TestCase):

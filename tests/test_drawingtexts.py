@@ -124,7 +124,7 @@ class DrawingTextTest(unittest.TestCase):
             ("aA\n\n\n\n", 5), ("aA\n\n\nx", 5), ("aA\n\n0.0\n", 4), ("aA\n\n \n", 4), ("aA\n \n", 3), ("aA\na \n", 5),
             ("aA\na  a\n", 5), ("aA\nb\n", 3), ("aA\nba\n", 3), ("aA\na\n\n", 5), ("aA\na\n0\n", 6), ("aA\na\n0.\n", 7),
             ("aA\na\n0.0", 8), ("aA\na\n0.0 \n", 9), ("aA\na\n0.0 0.0\n", 12), ("aA\na\n0.00\n", 8),
-            ("aA\na\n00.0\n", 6),
+            ("aA\na\n00.0\n", 6), ("aA\na\n10.0\n", 6),
             ("aA\na\n1.0\n", 8), ("aA\na\n0.1\n", 8), ("aA\na\n0.12\n", 9), ("aA\na\n0.123\n", 9), ("aA\na\n-0.0\n", 5),
             ("aA\na\n0.0\n\n", 9), ("aA\na\n0.0\na", 9), ("aA\na a\n0.0\n", 10), ("aA\na a\n0.0 0.0\n", 14),
             ("aA\na a\n0.0 1.0 \n", 15), ("aA\na a\n0.0 1.0 0.0\n", 18), ("aA\na a\n0.0\t1.0\n", 10),
