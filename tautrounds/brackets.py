@@ -59,6 +59,11 @@ def bracket_drawn(drawing, one, other):
     return _bracket_of(drawing, one, other)
 
 
+def bracket_of_rounds(skin, one, other):
+    """The bracket of two rounds that surely are such."""
+    return _bracket_of(best_drawing(skin, [one, other]), 0, 1)
+
+
 def bracket(skin, one, other):
     """The bracket of two sums."""
     check_skin(skin)
@@ -67,5 +72,5 @@ def bracket(skin, one, other):
     rows = []
     for first, many in one.items():
         for second, number in other.items():
-            rows.extend(times_rows(_bracket_of(best_drawing(skin, [first, second]), 0, 1), many * number))
+            rows.extend(times_rows(bracket_of_rounds(skin, first, second), many * number))
     return put_together(rows)

@@ -13,6 +13,8 @@ from tautrounds.words import MOST_LETTERS, gone_back
 
 MOST_SHOWN = 40
 MOST_IN_SHOWING = 12
+# More letters than a word can have that one machine can hold.
+ANY_MANY = 10 ** 18
 
 
 def _are_fit_images(skin, images):
@@ -90,11 +92,21 @@ def check_change(skin, images):
         raise BadImages("images that can be undone, and that lead rims to rims, are wanted")
 
 
+def _undone_within(images, most):
+    """The images that undo a change; TooMany(most) if one of them would have more than most letters."""
+    return both_ways(undone_basis([images[letter] for letter in range(0, len(images), 2)], most))
+
+
+def undone_images(images):
+    """The images, of words of any length, that undo those of a change."""
+    return _undone_within(images, ANY_MANY)
+
+
 def undone_change(skin, images):
     """The images that undo a change."""
     check_skin(skin)
     check_change(skin, images)
-    return both_ways(undone_basis([images[letter] for letter in range(0, len(images), 2)], MOST_LETTERS))
+    return _undone_within(images, MOST_LETTERS)
 
 
 def _keeps_number(skin, images, one, other):

@@ -6,8 +6,8 @@ from tautrounds.drawings import Drawing
 from tautrounds.errors import BadDeed, BadName, RoundError, TooMany
 from tautrounds.given import is_list, is_tuple
 from tautrounds.pushes import exchanged
-from tautrounds.rounds import MOST_IN_ROUND, MOST_ROUNDS, MOST_TOGETHER, check_round, closed_up
-from tautrounds.skins import renamed
+from tautrounds.rounds import MOST_IN_ROUND, MOST_ROUNDS, MOST_TOGETHER, check_round, closed_letters
+from tautrounds.skins import least_turn, renamed
 from tautrounds.slides import led_free, slid
 from tautrounds.twists import check_simple, check_twist_times, twist_images
 
@@ -87,12 +87,13 @@ def _settle(stand, _):
 
 def _lead(stand, skin, images):
     """The stand on another skin, or the same one, with the rounds led by images."""
-    rounds = [closed_up(led_free(images, loop)) for loop in stand.drawing.rounds]
-    if max([len(loop) for loop in rounds], default=0) > MOST_IN_ROUND:
+    words = [closed_letters(led_free(images, loop)) for loop in stand.drawing.rounds]
+    # A twist can lead a round to a million letters and more: they are counted ahead of all else.
+    if max([len(word) for word in words], default=0) > MOST_IN_ROUND:
         raise TooMany(MOST_IN_ROUND)
-    if sum([len(loop) for loop in rounds]) > MOST_TOGETHER:
+    if sum([len(word) for word in words]) > MOST_TOGETHER:
         raise TooMany(MOST_TOGETHER)
-    return Stand(stand.names, best_drawing(skin, rounds))
+    return Stand(stand.names, best_drawing(skin, [least_turn(word) for word in words]))
 
 
 def _slide(stand, things):

@@ -7,11 +7,16 @@ from tautrounds.skins import check_skin
 from tautrounds.sums import MOST_IN_SUM, check_sum, is_number_of_sum
 
 
+def rows_of_sum(some):
+    """The rows of the text of a sum, however great."""
+    return [str(some[loop]) + " " + signs_of(loop) for loop in sorted(some)]
+
+
 def sum_text(skin, some):
     """The text of a sum: a row for each round, with its number."""
     check_skin(skin)
     check_sum(skin, some)
-    return "".join([str(some[loop]) + " " + signs_of(loop) + "\n" for loop in sorted(some)])
+    return "".join([row + "\n" for row in rows_of_sum(some)])
 
 
 def rows_of_drawing(drawing):

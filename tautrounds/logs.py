@@ -28,11 +28,15 @@ def step_row(step):
     return BETWEEN_DEEDS.join([" ".join(_deed_words(deed)) for deed in step])
 
 
+def log_rows(live):
+    """The rows of the text of a live skin that surely is one."""
+    return [signs_of(live.first.row)] + [step_row(step) for step in live.steps()]
+
+
 def log_text(live):
     """The text of the first skin, and a row for each step that is done."""
     check_live(live)
-    rows = [signs_of(live.first.row)] + [step_row(step) for step in live.steps()]
-    return "".join([row + "\n" for row in rows])
+    return "".join([row + "\n" for row in log_rows(live)])
 
 
 def _read_name(word):

@@ -10,13 +10,18 @@ MOST_ROUNDS = 8
 MOST_TOGETHER = 80
 
 
-def closed_up(word):
-    """The round of letters, however many; () if nothing is left of them."""
+def closed_letters(word):
+    """What is left of letters, however many, when their end is joined to their front, not turned yet."""
     left = cut_free(word)
     cut = 0
     while len(left) - 2 * cut >= 2 and left[cut] == left[len(left) - 1 - cut] ^ 1:
         cut += 1
-    left = left[cut:len(left) - cut]
+    return left[cut:len(left) - cut]
+
+
+def closed_up(word):
+    """The round of letters, however many; () if nothing is left of them."""
+    left = closed_letters(word)
     return least_turn(left) if left else ()
 
 

@@ -68,8 +68,27 @@ def next_end(skin, end):
 
 
 def least_turn(word):
-    """Of the turns of a word with letters the least one."""
-    return min([word[at:] + word[:at] for at in range(len(word))])
+    """Of the turns of a word with letters the least one.
+
+    Two turns, by where they start, are read side by side: the one that is greater at last is out, and so are those
+    that start within what was read of it. So it takes steps as the word has letters, which may be very many.
+    """
+    many = len(word)
+    one, other, alike = 0, 1, 0
+    while one < many and other < many and alike < many:
+        first, second = word[(one + alike) % many], word[(other + alike) % many]
+        if first == second:
+            alike += 1
+            continue
+        if first > second:
+            one += alike + 1
+        else:
+            other += alike + 1
+        if one == other:
+            other += 1
+        alike = 0
+    start = min(one, other)
+    return word[start:] + word[:start]
 
 
 def _rim_from(skin, start):

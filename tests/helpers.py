@@ -3,13 +3,14 @@
 import random
 from itertools import permutations, product
 
+from tautrounds.best import best_rows
 from tautrounds.changes import behind
 from tautrounds.drawings import Drawing, strands_along
 from tautrounds.errors import RoundError, TooMany
 from tautrounds.linked import crossings, own_crossings
 from tautrounds.live import Live
 from tautrounds.rounds import along, closed_up, is_round, root_of, round_of, turned_about
-from tautrounds.skins import Skin, rims
+from tautrounds.skins import Skin, mirrored, renamed, rims
 from tautrounds.slides import led
 from tautrounds.twists import twist
 from tautrounds.words import gone_back
@@ -216,3 +217,77 @@ def live_of(skin, deeds):
     for deed in deeds:
         live.do([deed])
     return live
+
+
+def counted_numbers(skin, rounds):
+    """The numbers of a bundle counted chord by chord, as the document states them."""
+    many = 2 * skin.bands
+    chords = [(loop[at - 1] ^ 1, loop[at]) for loop in rounds for at in range(len(loop))]
+    places = [sorted(skin.row.index(end) for end in chord) for chord in chords]
+    bands = [sum(letter // 2 == band for loop in rounds for letter in loop) for band in range(skin.bands)]
+    return tuple(bands + [sum(low < i <= high for low, high in places) for i in range(2, many - 1)])
+
+
+def chance_numbers(chance, skin, most):
+    """The numbers of some bundle, each band with at most so many letters: heights are chosen as the triangles let."""
+    row = skin.row
+    bands = [chance.randint(0, most) for _ in range(skin.bands)]
+    if skin.bands == 1:
+        return tuple(bands)
+    last = len(row) - 1
+    low, high = {last: bands[row[last] // 2]}, {last: bands[row[last] // 2]}
+    for i in range(last - 1, 0, -1):
+        x = bands[row[i] // 2]
+        low[i], high[i] = max(0, low[i + 1] - x, x - high[i + 1]), high[i + 1] + x
+    height = bands[row[0] // 2]
+    if not low[1] <= height <= high[1]:
+        return chance_numbers(chance, skin, most)
+    heights = []
+    for i in range(1, last - 1):
+        x = bands[row[i] // 2]
+        least, greatest = max(abs(height - x), low[i + 1]), min(height + x, high[i + 1])
+        least += (least + height + x) % 2
+        if least > greatest:
+            return chance_numbers(chance, skin, most)
+        height = least + 2 * chance.randint(0, (greatest - least) // 2)
+        heights.append(height)
+    return tuple(bands + heights)
+
+
+def plain(skin, loop):
+    """The lesser one of a round and it turned about, however long."""
+    return min(loop, closed_up(gone_back(loop)))
+
+
+def rounds_in(told):
+    """The rounds of what bundle_of told, each as often as it is there."""
+    return [loop for loop, times in told for _ in range(times)]
+
+
+def chords_crossing(skin, one, other):
+    """How often two rounds cross, counted by chords: in the best drawing of both, however long they are."""
+    places = {}
+    for band, row in enumerate(best_rows(skin, [one, other])):
+        for end in (2 * band, 2 * band + 1):
+            for at, strand in enumerate(row if end % 2 == 0 else row[::-1]):
+                places[(strand, end)] = (skin.row.index(end), at)
+    chords = [[], []]
+    for index, loop in enumerate((one, other)):
+        for at, letter in enumerate(loop):
+            before = (at - 1) % len(loop)
+            ends = (places[((index, before), loop[before] ^ 1)], places[((index, at), letter)])
+            chords[index].append(sorted(ends))
+    many = 0
+    for low, high in chords[0]:
+        many += sum((low < start < high) != (low < end < high) for start, end in chords[1])
+    return many
+
+
+def chance_turning(chance, skin):
+    """A change that renames letters, perhaps one that turns rims about; None if chance finds none but itself."""
+    for _ in range(400):
+        letters = chance_renaming(chance, skin.bands)
+        row = renamed(skin, letters).row
+        if row in (skin.row, mirrored(skin).row) and letters != list(range(2 * skin.bands)):
+            return [(letter,) for letter in letters]
+    return None

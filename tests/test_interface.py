@@ -6,6 +6,7 @@ import importlib
 import inspect
 import unittest
 
+from tautrounds.desk import Desk
 from tautrounds.drawings import Drawing
 from tautrounds.live import Live
 from tautrounds.skins import Skin
@@ -61,6 +62,22 @@ INTERFACE = {
     },
     "logs": {"log_text": "live", "read_log": "text"},
     "merges": {"merged": "skin base one other", "clash": "skin base one other"},
+    "desk": {"Desk": "skin"},
+    "orbits": {
+        "orbit_many": "size pairings", "orbit_kinds": "size pairings weights",
+        "orbit_sum": "size pairings weights number", "same_orbit": "size pairings one other",
+    },
+    "roundkinds": {"kinds": "skin numbers", "rounds_many": "skin numbers", "round_there": "skin numbers band place"},
+    "strips": {"crossed_by": "skin numbers loop", "rim_times": "skin numbers", "without_rims": "skin numbers"},
+    "bundles": {
+        "numbers_of": "skin rounds", "is_bundle": "skin thing", "joined": "skin numbers", "bundle_of": "skin numbers",
+        "laid": "skin one other", "multiplied": "skin numbers times", "divided": "skin numbers shares",
+        "bundles_crossed": "skin one other", "is_apart": "skin one other",
+    },
+    "leads": {
+        "slid_bundle": "skin end side numbers", "led_bundle": "skin images numbers",
+        "twisted_bundle": "skin loop times numbers",
+    },
 }
 METHODS = {
     "loop": "name", "copy": "", "draw": "name loop", "wipe": "name", "swap": "band place", "settle": "",
@@ -68,6 +85,8 @@ METHODS = {
     "fewest": "", "crossed": "", "over": "", "do": "deeds", "steps": "", "undo": "", "redo": "", "mark": "name",
     "to": "name", "marks": "",
 }
+# Objects of which the document does not say when they are equal.
+WITHOUT_EQUAL = ("Desk",)
 # What is handed in under a name that another function wants to be something else.
 SPECIAL = {
     ("bracket_drawn", "one"): 0, ("bracket_drawn", "other"): 1, ("bracket", "one"): {(0,): 1},
@@ -77,6 +96,10 @@ SPECIAL = {
     ("twist", "loop"): (0,), ("sides", "loop"): (0,), ("alike_rounds", "one"): (0,), ("alike_rounds", "other"): (2,),
     ("Live", "cross"): None, ("read_word", "text"): "ab", ("read_round", "text"): "ab", ("read_skin", "text"): "aAbB",
     ("read_sum", "text"): "1 a\n", ("read_drawing", "text"): "aAbB\n\n\n\n", ("read_log", "text"): "aAbB\nsettle\n",
+    ("numbers_of", "rounds"): [(0,), (0, 2)], ("laid", "one"): (1, 1, 2), ("laid", "other"): (1, 0, 0),
+    ("bundles_crossed", "one"): (1, 1, 2), ("bundles_crossed", "other"): (1, 0, 0), ("is_apart", "one"): (1, 1, 2),
+    ("is_apart", "other"): (1, 0, 0), ("same_orbit", "one"): 1, ("same_orbit", "other"): 2,
+    ("led_bundle", "images"): [(2,), (3,), (0,), (1,)], ("twisted_bundle", "loop"): (0,),
     ("merged", "one"): [("settle",)], ("merged", "other"): [], ("clash", "one"): [("settle",)], ("clash", "other"): [],
 }
 
@@ -104,6 +127,7 @@ class InterfaceTest(unittest.TestCase):
             self.assertEqual(list(inspect.signature(getattr(Live, name)).parameters), ["self"] + arguments.split())
         self.assertIs(inspect.signature(Live).parameters["cross"].default, None)
         self.assertIs(inspect.signature(Live.number).parameters["other"].default, None)
+        self.assertEqual(list(inspect.signature(vars(Desk)["say"]).parameters), ["self", "line"])
         self.assertTrue({"first", "skin", "names", "drawing"} <= set(vars(Live(Skin((0, 1))))))
 
     def test_named_arguments_and_new_lists(self):
@@ -116,7 +140,8 @@ class InterfaceTest(unittest.TestCase):
             "way": [("rename", (0, 1, 2, 3))], "place": 0, "spot": 0, "rounds": rounds, "rows": rows, "most": 3,
             "side": 1, "drawing": drawing, "band": 0, "row": [0, 2, 1, 3], "genus": 1, "rims": 1,
             "some": {(0, 3): 1}, "index": 0, "live": Live(skin), "at": 0, "base": [],
-            "deeds": [("draw", "x", (0,)), ("settle",)],
+            "deeds": [("draw", "x", (0,)), ("settle",)], "numbers": (2, 1, 2), "shares": 1, "size": 5,
+            "pairings": [(0, 0, 5, -1)], "weights": [(5, (1,))], "number": 3,
         }
         before = copy.deepcopy([values, SPECIAL])
         for name, wanted in INTERFACE.items():
@@ -126,6 +151,8 @@ class InterfaceTest(unittest.TestCase):
                 named = {word: SPECIAL.get((thing, word), values.get(word)) for word in arguments.split()}
                 told = act(*named.values())
                 again = act(**named)
+                if thing in WITHOUT_EQUAL:
+                    continue
                 self.assertEqual(told, again, thing)
                 if type(told) is list:
                     told.append(None)
