@@ -3,8 +3,13 @@
 Gap i is the place at the disc's edge right ahead of e(i).
 """
 
+from tautrounds.errors import BadBridge, BadSkin
+from tautrounds.given import is_tuple, is_within
+from tautrounds.skins import check_skin
 from tautrounds.slides import led_free
-from tautrounds.words import cut_free, gone_back
+from tautrounds.words import cut_free, gone_back, is_any_word
+
+MOST_IN_BRIDGE = 40
 
 
 def gap_behind(skin, end):
@@ -78,3 +83,33 @@ def triple_led(skin, target, images, triple):
     spot, ahead = gap_led(skin, target, images, start)
     gap, last = gap_led(skin, target, images, end)
     return spot, cut_free(ahead + led_free(images, word) + gone_back(last)), gap
+
+
+def check_bands(skin):
+    """BadSkin(None) unless it is a Skin, BadSkin("bands") unless it has two bands or more."""
+    check_skin(skin)
+    if skin.bands < 2:
+        raise BadSkin("bands")
+
+
+def is_gap(skin, thing):
+    """Whether it is one of the skin's gaps."""
+    return is_within(thing, 0, len(skin.row) - 1)
+
+
+def is_plain_triple(skin, thing):
+    """Whether it is the plain triple of a bridge, however long."""
+    if not is_tuple(thing) or len(thing) != 3 or not is_gap(skin, thing[0]) or not is_gap(skin, thing[2]):
+        return False
+    return is_any_word(skin, thing[1]) and plain_triple(skin, thing[0], thing[1], thing[2]) == thing
+
+
+def is_fit_bridge(skin, thing):
+    """Whether it is a bridge within the limits, of a skin that surely has two bands or more."""
+    return is_plain_triple(skin, thing) and len(thing[1]) <= MOST_IN_BRIDGE
+
+
+def check_bridge(skin, bridge):
+    """BadBridge unless it is a bridge within the limits."""
+    if not is_fit_bridge(skin, bridge):
+        raise BadBridge("the plain triple of a bridge of at most 40 letters is wanted")

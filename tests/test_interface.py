@@ -9,6 +9,7 @@ import unittest
 from tautrounds.desk import Desk
 from tautrounds.drawings import Drawing
 from tautrounds.live import Live
+from tautrounds.livefans import LiveFan
 from tautrounds.skins import Skin
 
 INTERFACE = {
@@ -78,12 +79,35 @@ INTERFACE = {
         "slid_bundle": "skin end side numbers", "led_bundle": "skin images numbers",
         "twisted_bundle": "skin loop times numbers",
     },
+    "bridges": {"bridge_of": "skin start word end", "is_bridge": "skin thing", "rims_at": "skin bridge"},
+    "overpasses": {
+        "overpasses": "skin bridge loop", "bridges_crossed": "skin one other", "own_overpasses": "skin bridge",
+    },
+    "fans": {"is_fan": "skin thing", "first_fan": "skin", "triangles": "skin fan", "completed": "skin bridges"},
+    "flips": {
+        "flipped": "skin fan place", "nearer": "skin fan bridge", "flip_way": "skin one other",
+        "is_flip_way": "skin one other thing", "fewest_flips": "skin one other",
+    },
+    "fannumbers": {
+        "numbers_on": "skin fan numbers", "is_numbers_on": "skin fan thing", "numbers_from": "skin fan row",
+    },
+    "patterns": {
+        "pattern": "skin fan", "symmetries": "skin fan", "patterns": "skin", "led_bridge": "skin images bridge",
+        "led_fan": "skin images fan", "fan_changes": "skin one other",
+    },
+    "livefans": {"LiveFan": "skin"},
 }
 METHODS = {
     "loop": "name", "copy": "", "draw": "name loop", "wipe": "name", "swap": "band place", "settle": "",
     "slide": "end side", "rename": "letters", "change": "images", "twist": "name times", "number": "name other",
     "fewest": "", "crossed": "", "over": "", "do": "deeds", "steps": "", "undo": "", "redo": "", "mark": "name",
     "to": "name", "marks": "",
+}
+FAN = [(0, (), 1), (0, (), 2), (0, (), 3)]
+FLIPPED = [(0, (), 1), (0, (), 3), (1, (), 3)]
+METHODS_OF_FAN = {
+    "lay": "name numbers", "lift": "name", "flip": "place", "lead": "images", "row": "name", "numbers": "name",
+    "undo": "", "redo": "",
 }
 # Objects of which the document does not say when they are equal.
 WITHOUT_EQUAL = ("Desk",)
@@ -100,8 +124,26 @@ SPECIAL = {
     ("bundles_crossed", "one"): (1, 1, 2), ("bundles_crossed", "other"): (1, 0, 0), ("is_apart", "one"): (1, 1, 2),
     ("is_apart", "other"): (1, 0, 0), ("same_orbit", "one"): 1, ("same_orbit", "other"): 2,
     ("led_bundle", "images"): [(2,), (3,), (0,), (1,)], ("twisted_bundle", "loop"): (0,),
+    ("flipped", "place"): 1, ("flip_way", "one"): FAN, ("flip_way", "other"): FLIPPED, ("is_flip_way", "one"): FAN,
+    ("is_flip_way", "other"): FLIPPED, ("is_flip_way", "thing"): [(0, (), 2)], ("fewest_flips", "one"): FAN,
+    ("fewest_flips", "other"): FLIPPED, ("is_fan", "thing"): FAN, ("completed", "bridges"): [(1, (), 3)],
+    ("is_numbers_on", "thing"): (2, 2, 1), ("numbers_from", "row"): (2, 2, 1), ("triangles", "fan"): FAN,
+    ("bridges_crossed", "one"): (0, (), 2), ("bridges_crossed", "other"): (1, (), 3),
+    ("led_bridge", "images"): [(2,), (3,), (0,), (1,)], ("led_fan", "images"): [(2,), (3,), (0,), (1,)],
+    ("fan_changes", "one"): FAN, ("fan_changes", "other"): FAN,
     ("merged", "one"): [("settle",)], ("merged", "other"): [], ("clash", "one"): [("settle",)], ("clash", "other"): [],
 }
+
+
+def spoil(thing):
+    """Changes all lists and dicts in what was told."""
+    if type(thing) in (list, tuple):
+        for part in thing:
+            spoil(part)
+    if type(thing) is list:
+        thing.append("spoilt")
+    if type(thing) is dict:
+        thing["spoilt"] = None
 
 
 class InterfaceTest(unittest.TestCase):
@@ -128,6 +170,10 @@ class InterfaceTest(unittest.TestCase):
         self.assertIs(inspect.signature(Live).parameters["cross"].default, None)
         self.assertIs(inspect.signature(Live.number).parameters["other"].default, None)
         self.assertEqual(list(inspect.signature(vars(Desk)["say"]).parameters), ["self", "line"])
+        self.assertEqual(set(METHODS_OF_FAN) - set(vars(LiveFan)), set())
+        for name, arguments in METHODS_OF_FAN.items():
+            self.assertEqual(list(inspect.signature(getattr(LiveFan, name)).parameters), ["self"] + arguments.split())
+        self.assertTrue({"skin", "fan", "names"} <= set(vars(LiveFan(Skin((0, 1, 2, 3))))))
         self.assertTrue({"first", "skin", "names", "drawing"} <= set(vars(Live(Skin((0, 1))))))
 
     def test_named_arguments_and_new_lists(self):
@@ -141,7 +187,8 @@ class InterfaceTest(unittest.TestCase):
             "side": 1, "drawing": drawing, "band": 0, "row": [0, 2, 1, 3], "genus": 1, "rims": 1,
             "some": {(0, 3): 1}, "index": 0, "live": Live(skin), "at": 0, "base": [],
             "deeds": [("draw", "x", (0,)), ("settle",)], "numbers": (2, 1, 2), "shares": 1, "size": 5,
-            "pairings": [(0, 0, 5, -1)], "weights": [(5, (1,))], "number": 3,
+            "pairings": [(0, 0, 5, -1)], "weights": [(5, (1,))], "number": 3, "start": 0, "bridge": (0, (), 2),
+            "bridges": [(0, (), 2)], "fan": FAN,
         }
         before = copy.deepcopy([values, SPECIAL])
         for name, wanted in INTERFACE.items():
@@ -154,15 +201,21 @@ class InterfaceTest(unittest.TestCase):
                 if thing in WITHOUT_EQUAL:
                     continue
                 self.assertEqual(told, again, thing)
-                if type(told) is list:
-                    told.append(None)
-                    again.append(None)
-                    self.assertEqual(act(**named), told[:-1], thing)
-                if type(told) is dict:
-                    told[None] = None
-                    again[None] = None
-                    self.assertNotIn(None, act(**named), thing)
+                spoil(told)
+                self.assertEqual(act(**named), again, thing)
                 self.assertEqual([values, SPECIAL], before, thing)
+
+    def test_lists_may_be_tuples(self):
+        """Where a list is spoken of a tuple may be given ([3]), at the first level of each argument."""
+        for name, wanted in INTERFACE.items():
+            module = importlib.import_module("tautrounds." + name)
+            for thing, arguments in wanted.items():
+                named = {word: SPECIAL[(thing, word)] for word in arguments.split() if (thing, word) in SPECIAL}
+                lists = [word for word in named if type(named[word]) is list]
+                if set(named) | {"skin"} == set(arguments.split()) and lists:
+                    act, skin = getattr(module, thing), Skin((0, 1, 2, 3))
+                    tuples = {word: tuple(named[word]) if word in lists else named[word] for word in named}
+                    self.assertEqual(act(skin, **named), act(skin, **tuples), thing)
 
 
 if __name__ == "__main__":
