@@ -4,9 +4,12 @@ import random
 from itertools import permutations, product
 
 from tautrounds.best import best_rows
+from tautrounds.bridges import bridge_of
 from tautrounds.changes import behind
 from tautrounds.drawings import Drawing, strands_along
 from tautrounds.errors import RoundError, TooMany
+from tautrounds.fans import first_fan
+from tautrounds.flips import flipped
 from tautrounds.linked import crossings, own_crossings
 from tautrounds.live import Live
 from tautrounds.rounds import along, closed_up, is_round, root_of, round_of, turned_about
@@ -291,3 +294,33 @@ def chance_turning(chance, skin):
         if row in (skin.row, mirrored(skin).row) and letters != list(range(2 * skin.bands)):
             return [(letter,) for letter in letters]
     return None
+
+
+def chance_bridge(chance, skin, most):
+    """A bridge from a word of at most so many letters."""
+    while True:
+        word = chance_word(chance, skin, chance.randint(0, most))
+        bridge = bridge_of(skin, chance.randrange(2 * skin.bands), word, chance.randrange(2 * skin.bands))
+        if bridge is not None and len(bridge[1]) <= 40:
+            return bridge
+
+
+def chance_fan(chance, skin, many):
+    """A fan behind so many flips, or fewer where they cannot be done."""
+    fan = first_fan(skin)
+    for _ in range(many):
+        try:
+            fan, _ = flipped(skin, fan, chance.randrange(len(fan)))
+        except RoundError:
+            pass
+    return fan
+
+
+def around(skin, gap):
+    """The bridge around the end behind a gap."""
+    return bridge_of(skin, gap, (), (gap + 1) % (2 * skin.bands))
+
+
+def across(skin, gap):
+    """The bridge from gap 0 across the disc to another gap."""
+    return bridge_of(skin, 0, (), gap)
