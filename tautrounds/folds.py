@@ -22,38 +22,35 @@ def _drawn(words):
 
 
 def _name(names, spot):
-    """The least spot that was made one with this one."""
+    """The least spot that was made one with this one; what leads there is made shorter."""
     while names[spot] != spot:
+        names[spot] = names[names[spot]]
         spot = names[spot]
     return spot
 
 
-def _joined(steps, names):
-    """Makes spots one to which one letter leads out of one spot; whether there were such."""
-    is_joined = False
-    ends = {}
-    for start, letter, end in steps:
-        key = (_name(names, start), letter)
-        last = _name(names, end)
-        other = _name(names, ends.setdefault(key, last))
-        if other != last:
-            names[max(other, last)] = min(other, last)
-            is_joined = True
-    return is_joined
-
-
 def folded(words):
-    """The folded graph of words: a dict from each spot to the dict from letters to the spots to which they lead."""
+    """The folded graph of words: a dict from each spot to the dict from letters to the spots to which they lead.
+
+    Where a step is to be drawn beside another one by its letter, the spots to which both lead are made one: the steps
+    out of the spot that goes are drawn anew. So words of very many letters are folded in as many steps.
+    """
     steps, many = _drawn(words)
     names = list(range(many))
-    while _joined(steps, names):
-        steps = [(_name(names, start), letter, _name(names, end)) for start, letter, end in steps]
-    graph = {0: {}}
-    for start, letter, end in steps:
-        if start not in graph:
-            graph[start] = {}
-        graph[start][letter] = end
-    return graph
+    graph = {spot: {} for spot in names}
+    while steps:
+        start, letter, end = steps.pop()
+        start, end = _name(names, start), _name(names, end)
+        other = _name(names, graph[start].setdefault(letter, end))
+        if other != end:
+            keep, gone = min(other, end), max(other, end)
+            names[gone] = keep
+            moved = graph.pop(gone)
+            steps.extend([(keep, name, beyond) for name, beyond in moved.items()])
+    return {
+        spot: {letter: _name(names, end) for letter, end in ends.items()}
+        for spot, ends in graph.items()
+    }
 
 
 def loops_many(graph):
@@ -63,15 +60,15 @@ def loops_many(graph):
 
 def trimmed(graph):
     """The graph without the spots out of which just one step leads, as long as there are such."""
-    ends = [spot for spot in graph if len(graph[spot]) == 1]
+    left = {spot: {letter: other for letter, other in steps.items()} for spot, steps in graph.items()}
+    ends = [spot for spot in left if len(left[spot]) == 1]
     while ends:
-        left = {}
-        for spot, steps in graph.items():
-            if spot not in ends:
-                left[spot] = {letter: other for letter, other in steps.items() if other not in ends}
-        graph = left
-        ends = [spot for spot in graph if len(graph[spot]) == 1]
-    return graph
+        steps = left.pop(ends.pop())
+        for letter, other in steps.items():
+            left[other].pop(letter ^ 1)
+            if len(left[other]) == 1:
+                ends.append(other)
+    return left
 
 
 def _is_laid(one, other, start, spot):

@@ -100,7 +100,8 @@ class Weights:
     def fold_down(self, size, over):
         """Takes away all numbers from size on, and adds their weights to those with which a pairing pairs them."""
         low, high, length, way = over
-        for start, many, worth in self.cut_off(size):
+        rows = self.cut_off(size)
+        for start, many, worth in rows:
             if way == -1:
                 first = low + high + length - start - many
                 self.add_on(first, first + many, worth)
@@ -136,7 +137,8 @@ class Peel:
         tops = [high + length for _, high, length, _ in self.pairings]
         top = max(tops, default=0)
         if top < self.size:
-            for _, many, worth in self.weights.cut_off(top):
+            rows = self.weights.cut_off(top)
+            for _, many, worth in rows:
                 self.found[worth] = self.found.get(worth, 0) + many
             self.size = top
             return

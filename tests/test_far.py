@@ -4,12 +4,13 @@ import tracemalloc
 import unittest
 
 from tautrounds.changes import is_change, led_sum
+from tautrounds.cuts import is_parts, parts
 from tautrounds.errors import BadImages, TooMany
 from tautrounds.live import Live
 from tautrounds.logs import log_text
 from tautrounds.rounds import closed_up
 from tautrounds.skins import Skin, least_turn
-from tautrounds.words import cut_free
+from tautrounds.words import cut_free, gone_back
 from tests.helpers import chance_of, chance_round, chance_skin, chance_word, check_error, images_from
 
 LONG = (1, 2) + (5, 2) * 8 + (5,)
@@ -73,6 +74,20 @@ class FarTest(unittest.TestCase):
         self.assertGreater(max(map(len, told[0])), 4000)
         for loop in list(told[0])[:5]:
             self.assertEqual(closed_up(loop), loop)
+
+    def test_parts_with_images_of_many_letters(self):
+        """Images of parts may have words of any length ([52])."""
+        chance = chance_of(4)
+        skin = Skin((0, 1, 2, 3, 4, 5))
+        ahead = cut_free(chance_word(chance, skin, 6000))
+        told = parts(skin, [(0, 2)])
+        moved = [(labels, part, [cut_free(ahead + word + gone_back(ahead)) for word in images])
+                 for labels, part, images in told]
+        answers = []
+        self.assertLess(peak_of(lambda: answers.append(is_parts(skin, [(0, 2)], moved))), 40 * 10 ** 6)
+        self.assertEqual(answers, [True])
+        other = moved[0][2][:2] + [cut_free((2,) + word + (3,)) for word in moved[0][2][2:]]
+        self.assertFalse(is_parts(skin, [(0, 2)], [moved[0][:2] + (other,)] + moved[1:]))
 
     def test_images_of_many_letters(self):
         chance = chance_of(3)
