@@ -8,7 +8,7 @@ from tautrounds.best import best_drawing
 from tautrounds.brackets import from_place
 from tautrounds.changes import check_change, undone_images
 from tautrounds.chords import check_bundle, told_numbers
-from tautrounds.drawings import Layout, strands_along
+from tautrounds.drawings import Layout, all_strands
 from tautrounds.errors import BadNumber
 from tautrounds.given import is_within
 from tautrounds.passages import bundle_weave, joined_passages, many_passages
@@ -75,7 +75,7 @@ class Windings:
         Each with True if the round goes to the left there.
         """
         found = []
-        for strand in [strand for band in range(self.weave.skin.bands) for strand in strands_along([self.loop], band)]:
+        for strand in all_strands([self.loop]):
             come, leave = self.layout.chord(strand)
             is_right = [start <= point[0] < end for point in (come, leave)]
             if is_right[0] != is_right[1]:

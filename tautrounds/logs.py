@@ -82,7 +82,7 @@ def _read_things(kind, words):
     """The things of a deed of this kind; None if one of the words is of another form."""
     if kind == "change":
         images = tuple([_read_letters(word) for word in words])
-        return None if None in images else [images]
+        return None if not images or None in images else [images]
     readers = FORMS[kind]
     if len(words) != len(readers):
         return None

@@ -26,7 +26,7 @@ WHAT = [
     "draw x a b", "draw x a;", "draw x a ;settle", "draw x a;settle", "draw x a; ", "; settle", "settle ; settle",
     "settle\n", "settle x", "Settle", "wipe", "wipe x y", "wipe 1", "swap 0", "swap 0 01", "swap 0 -0", "swap a 0",
     "swap 0 12345678901", "swap +1 0", "slide a", "slide a 1", "slide ab +", "slide g +", "slide a ++", "rename",
-    "rename aAbB ", "rename gG", "change ab ", "twist x", "twist x 1.0", "twist x --1", "twist 1 x", "undo 1",
+    "rename aAbB ", "rename gG", "change", "change ab ", "wipe", "swap", "slide", "twist", "twist x", "twist x 1.0", "twist x --1", "twist 1 x", "undo 1",
     "undo x", "undo; undo", "settle; undo", "redo 1", "mark", "mark X", "mark x y", "mark abcdefghi", "to", "to 1",
     "names x", "skin x", "round", "round x y", "round 1", "number", "number x y z", "number X", "fewest x",
     "crossed x", "over x", "genus x", "rims x", "simple", "simple x y", "fills x", "bracket x", "bracket x y z",

@@ -139,6 +139,16 @@ class FansTest(unittest.TestCase):
                 done += 1
                 self.assertIn(bridge, completed(skin, [bridge]))
 
+    def test_behind_many_flips(self):
+        chance = chance_of(10)
+        for bands in (2, 3, 4, 5, 6):
+            skin = chance_skin(chance, bands)
+            fan = chance_fan(chance, skin, 1500)
+            self.assertTrue(fits(skin, fan))
+            self.assertTrue(is_fan(skin, fan))
+            self.assertEqual(completed(skin, fan[::-1]), fan)
+            self.assertEqual(len(triangles(skin, fan)), 2 * bands - 2)
+
     def test_of_any_value(self):
         bad = ODD_VALUES + [FIRST[:2], FIRST + [(1, (), 3)], FIRST[::-1], [FIRST[0]] * 3, [list(one) for one in FIRST],
                             [(0, (), 1), (0, (), 2), (1, (), 3)], [(0, (), 1), (0, (), 2), (0, (), True)],

@@ -8,9 +8,11 @@ import unittest
 
 from tautrounds.desk import Desk
 from tautrounds.drawings import Drawing
+from tautrounds.errors import BadDrawing, BadLive, BadSkin
 from tautrounds.live import Live
 from tautrounds.livefans import LiveFan
 from tautrounds.skins import Skin
+from tests.helpers import NO_SKINS, ODD_VALUES, check_error
 
 INTERFACE = {
     "skins": {
@@ -109,6 +111,8 @@ METHODS_OF_FAN = {
     "lay": "name numbers", "lift": "name", "flip": "place", "lead": "images", "row": "name", "numbers": "name",
     "undo": "", "redo": "",
 }
+# The files of part 8, which want skins of two bands or more.
+WITH_BANDS = ("bridges", "overpasses", "fans", "flips", "fannumbers", "patterns", "livefans")
 # Objects of which the document does not say when they are equal.
 WITHOUT_EQUAL = ("Desk",)
 # What is handed in under a name that another function wants to be something else.
@@ -204,6 +208,29 @@ class InterfaceTest(unittest.TestCase):
                 spoil(told)
                 self.assertEqual(act(**named), again, thing)
                 self.assertEqual([values, SPECIAL], before, thing)
+
+    def test_what_is_wanted_first(self):
+        """Where a Skin, a Drawing or a Live is wanted and something else is given, this comes ahead of all others."""
+        wanted_errors = {"skin": BadSkin, "drawing": BadDrawing, "live": BadLive}
+        seen = {word: 0 for word in wanted_errors}
+        for name, wanted in INTERFACE.items():
+            module = importlib.import_module("tautrounds." + name)
+            for thing, arguments in wanted.items():
+                first, *rest = arguments.split()
+                if first not in wanted_errors or thing == "Skin":
+                    continue
+                for value in NO_SKINS + ODD_VALUES:
+                    if thing == "Live" and rest:
+                        rest = []
+                    check_error(self, wanted_errors[first], ("part", None), getattr(module, thing), value,
+                                *[None for _ in rest])
+                seen[first] += 1
+                if name in WITH_BANDS:
+                    check_error(self, BadSkin, ("part", "bands"), getattr(module, thing), Skin((0, 1)),
+                                *[None for _ in rest])
+        self.assertEqual(seen["live"], 1)
+        self.assertGreater(seen["drawing"], 10)
+        self.assertGreater(seen["skin"], 80)
 
     def test_lists_may_be_tuples(self):
         """Where a list is spoken of a tuple may be given ([3]), at the first level of each argument."""

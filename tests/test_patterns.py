@@ -15,6 +15,7 @@ from tautrounds.patterns import fan_changes, led_bridge, led_fan, pattern, patte
 from tautrounds.rounds import closed_up
 from tautrounds.skins import Skin, genus, rims
 from tautrounds.slides import led, plain_skin
+from tautrounds.strips import crossed_by
 from tautrounds.twists import twist
 from tautrounds.words import cut_free, gone_back
 from tests.helpers import (
@@ -216,6 +217,30 @@ class LedTest(unittest.TestCase):
             new = dict(zip(told, numbers_on(skin, told, led_bundle(skin, images, numbers))))
             for bridge in fan:
                 self.assertEqual(new[led_bridge(skin, images, bridge)], row[bridge])
+
+    def test_long_words(self):
+        """Images of nearly two hundred letters, bridges of nearly forty: what is led may be far longer."""
+        chance = chance_of(11)
+        for _ in range(4):
+            skin = chance_skin(chance, chance.choice([4, 6]))
+            images = own_images(skin)
+            for _ in range(60):
+                try:
+                    images = behind(skin, images, twist(skin, chance_simple(chance, skin, 3), chance.choice([-1, 1])))
+                except TooMany:
+                    pass
+            self.assertGreater(max(map(len, images)), 100)
+            bridge = max(chance_fan(chance, skin, 200), key=lambda one: len(one[1]))
+            told = led_bridge(skin, images, bridge)
+            self.assertEqual(bridge_of(skin, *told) if len(told[1]) <= 200 else told, told)
+            numbers = chance_numbers(chance, skin, 10 ** 30)
+            fan = chance_fan(chance, skin, 200)
+            crossed = numbers_on(skin, fan, numbers)
+            new = led_bundle(skin, images, numbers)
+            self.assertGreaterEqual(sum(crossed), 0)
+            loop = chance_simple(chance, skin, 3)
+            if len(led_round(skin, images, loop)) <= 40:
+                self.assertEqual(crossed_by(skin, new, led_round(skin, images, loop)), crossed_by(skin, numbers, loop))
 
     def test_done_and_undone(self):
         chance = chance_of(6)
